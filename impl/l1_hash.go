@@ -108,12 +108,21 @@ func hashRest(state Digest, block [blockSize]byte, kept int) Digest {
 
 // HashLeaf is a leaf's digest.
 func HashLeaf(text string) Digest {
-	return HashOf("\x00" + text)
+	return HashOf(leafText(text))
 }
 
 // HashPair is the digest of two digests.
 func HashPair(left Digest, right Digest) Digest {
-	return HashOf("\x01" + HashBytes(left) + HashBytes(right))
+	return HashOf(pairText(left, right))
+}
+
+// leafText and pairText begin unlike, so that no leaf is taken for a pair.
+func leafText(leaf string) string {
+	return "\x00" + leaf
+}
+
+func pairText(left Digest, right Digest) string {
+	return "\x01" + HashBytes(left) + HashBytes(right)
 }
 
 // HashBytes is a digest in 32 bytes.
