@@ -6,6 +6,7 @@ import (
 	"strconv"
 	"strings"
 	"testing"
+	"unsafe"
 
 	"loop.example/belfry/impl"
 )
@@ -1109,6 +1110,15 @@ func TestClashWritesNoArgument(t *testing.T) {
 	impl.ClashFirst(b, a)
 	if !slices.Equal(wholeA, beforeA) || !slices.Equal(wholeB, beforeB) {
 		t.Error("a row is written into, or behind its end")
+	}
+}
+
+func TestClashFirstIsNewMemory(t *testing.T) {
+	a, b := []string{"alike", "a text"}, []string{"alike", "another"}
+	got, ok := impl.ClashFirst(a, b)
+	thisTexts := got == impl.Clash{Left: "a text", Right: "another"}
+	if !ok || !thisTexts || unsafe.StringData(got.Left) == unsafe.StringData(a[1]) || unsafe.StringData(got.Right) == unsafe.StringData(b[1]) {
+		t.Error("a clash keeps the memory of a row")
 	}
 }
 
